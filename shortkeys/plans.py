@@ -82,6 +82,18 @@ class Plan:
         return isinstance(other, Plan) and self.held == other.held
 
 
+def check_plan(plan):
+    """Raise BadPlan if a value of any kind is not a plan."""
+    if not isinstance(plan, Plan):
+        raise BadPlan(None)
+
+
+def check_plan_and_place(plan, place):
+    """Raise BadPlan or BadPlace if values of any kind are not a plan and the number of a place of it."""
+    check_plan(plan)
+    plan.check_place(place)
+
+
 def wrong_part(base, fields, cells, places, drops):
     """Return the word for the first part of a plan that is not as it must be, or None."""
     if not is_whole(base, 2, 3):

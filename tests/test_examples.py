@@ -24,6 +24,46 @@ KEYS = """\
 [('f0', 'c0', 'p1'), ('c0', 'p1'), True, False, 2, False]
 """
 
+VALUES = """\
+>>> from shortkeys.keys import Key
+>>> from shortkeys.plans import Plan
+>>> from shortkeys.recipes import Recipe
+>>> from shortkeys.values import core_keys, decide, does_decide, free_names, reads, value
+>>> who, page, day = Recipe.field(0), Recipe.field(1), Recipe.cell(0)
+>>> plan = Plan(2, 2, 1, ((page * day, None), (who.then(Recipe.place(0), page), Key.of('f0', 'f1'))))
+>>> first = [value(plan, 1, ((1, 1), (1,))), reads(plan, 1, ((1, 1), (1,))), reads(plan, 1, ((0, 1), (1,))), [key.names for key in core_keys(plan, 1)]]
+>>> [first, does_decide(plan, 1, Key.of('f0', 'f1')), decide(plan, 0, Key.of('f1', 'c0')).table, free_names(plan, 0).names, len(plan.situations())]
+[[1, ['f0', 'p0'], ['f0', 'f1'], [('f0', 'f1', 'c0'), ('f0', 'f1', 'p0')]], False, {(0, 0): 0, (0, 1): 0, (1, 0): 0, (1, 1): 1}, ('f0',), 8]
+"""
+
+JUDGING = """\
+>>> from shortkeys.judging import Mixed, is_sound, judge, mixes, soonest
+>>> from shortkeys.keeping import false_deeds, runs, told, traced
+>>> from shortkeys.keys import Key
+>>> from shortkeys.plans import Plan
+>>> from shortkeys.recipes import Recipe
+>>> who, page, day = Recipe.field(0), Recipe.field(1), Recipe.cell(0)
+>>> plan = Plan(2, 2, 1, ((page * day, Key.of('f1')), (who.then(Recipe.place(0), page), 'reads')), drops=((0,),))
+>>> history = [('ask', 1, (1, 1)), ('set', 0, 1), ('ask', 1, (1, 1)), ('ask', 1, (0, 1))]
+>>> first = [told(plan, history), traced(plan, history)[2], runs(plan, history), false_deeds(plan, history), is_sound(plan)]
+>>> other = plan.ruled(1, 'shown')
+>>> [first, told(other, history), false_deeds(other, history), soonest(other), judge(other).shows(other), len(mixes(other, 1)), Mixed(history[:3]).shows(plan)]
+[[[0, None, 1, 1], [(0, 'run', 1), (0, 'served', 1), (1, 'run', 1)], [2, 3], [], True], [0, None, 0, 1], [2], 3, True, 6, False]
+"""
+
+CHEAPEST = """\
+>>> from shortkeys.cheapest import cheapest, least_price
+>>> from shortkeys.keys import Key
+>>> from shortkeys.plans import Plan
+>>> from shortkeys.recipes import Recipe
+>>> who, page, day = Recipe.field(0), Recipe.field(1), Recipe.cell(0)
+>>> plan = Plan(2, 2, 1, ((page * day, None), (who.then(Recipe.place(0), page), None)))
+>>> found = cheapest(plan, 1, {'f0': 1, 'f1': 1, 'c0': 3, 'p0': 2})
+>>> dropped = Plan(2, 2, 1, plan.places, drops=((1,),))
+>>> [found.key.names, len(found.splits), least_price(plan, 1, {'f0': 1, 'p0': 1}), cheapest(dropped, 1, {'f0': 1, 'f1': 1, 'c0': 3}).key.names, least_price(dropped, 0, {'f0': 2})]
+[('f0', 'f1', 'p0'), 8, None, ('f0', 'f1'), None]
+"""
+
 
 def is_enough(block):
     """Tell whether the package has all modules from which an example imports."""
@@ -45,14 +85,23 @@ class ExamplesTest(unittest.TestCase):
     def test_keys(self):
         self.assertEqual(tuple(failures(KEYS)), (0, 3))
 
+    def test_values(self):
+        self.assertEqual(tuple(failures(VALUES)), (0, 8))
+
+    def test_judging(self):
+        self.assertEqual(tuple(failures(JUDGING)), (0, 11))
+
+    def test_cheapest(self):
+        self.assertEqual(tuple(failures(CHEAPEST)), (0, 9))
+
     def test_readme(self):
         blocks = re.findall(r"```\n(>>>.*?)```", (ROOT / "README.md").read_text(encoding="utf-8"), re.DOTALL)
-        self.assertEqual([tuple(failures(block)) for block in blocks], [(0, 6)])
+        self.assertEqual([tuple(failures(block)) for block in blocks], [(0, 13)])
 
     @unittest.skipUnless(DOCUMENT.exists(), "the document is not beside the project")
     def test_all_for_which_there_are_modules(self):
         blocks = re.findall(r"```\n(.*?)```", DOCUMENT.read_text(encoding="utf-8"), re.DOTALL)
-        self.assertEqual(blocks[:2], [RECIPES, KEYS])
+        self.assertEqual(blocks[:5], [RECIPES, KEYS, VALUES, JUDGING, CHEAPEST])
         for block in blocks:
             if is_enough(block):
                 with self.subTest(block=block):

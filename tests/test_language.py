@@ -147,6 +147,32 @@ class NodesTest(unittest.TestCase):
             if isinstance(node.ctx, ast.Store):
                 self.assertNotIn(node.attr, methods, name)
 
+    def test_attributes_that_are_read_are_assigned_or_defined(self):
+        known = own_names() | METHODS | {node.attr for name, node in nodes(ast.Attribute)
+                                         if isinstance(node.ctx, ast.Store)}
+        for name, node in nodes(ast.Attribute):
+            if isinstance(node.ctx, ast.Load) and not node.attr.startswith("__"):
+                self.assertIn(node.attr, known, name)
+
+    def test_no_local_name_is_that_of_a_class_or_an_import(self):
+        for path in FILES:
+            taken = {got for row in ast.walk(tree_of(path)) if isinstance(row, (ast.ClassDef, ast.ImportFrom))
+                     for got in bound_names(row)}
+            for node in ast.walk(tree_of(path)):
+                if isinstance(node, (ast.Name, ast.arg)):
+                    self.assertFalse(taken & set(bound_names(node)), path.name)
+
+    def test_what_is_ordered_is_plainly_numbers(self):
+        # Keys have an order that is not total, so nothing that may hold keys is sorted.
+        for name, node in nodes(ast.Call):
+            if isinstance(node.func, ast.Attribute):
+                self.assertNotEqual(node.func.attr, "sort", name)
+            elif isinstance(node.func, ast.Name) and node.func.id in ("sorted", "min", "max"):
+                self.assertIsInstance(node.args[0], ast.ListComp, name)
+                inner = node.args[0].elt
+                self.assertIsInstance(inner, ast.Call, name)
+                self.assertIn(inner.func.id, ("len", "int", "ord", "str", "repr"), name)
+
     def test_double_underscore_methods(self):
         for name, node in nodes(ast.FunctionDef):
             if node.name.startswith("__"):
