@@ -221,3 +221,111 @@ def soonest(plan, most):
         if len(seen) > most:
             return "more"
         rows = later
+
+
+def any_rules(seed, plan):
+    """The plan with other rules and drops here and there; the same one for the same seed."""
+    chance = random.Random(f"rules {seed}")
+    for place in range(len(plan)):
+        if chance.random() < 0.5:
+            key = Key([name for name in usable(plan, place) if chance.random() < 0.7])
+            plan = plan.ruled(place, chance.choice((None, "reads", "shown", key)))
+    drops = tuple(tuple(place for place in range(len(plan)) if chance.random() < 0.5) for cell in range(plan.cells))
+    return Plan(plan.base, plan.fields, plan.cells, plan.places, drops=drops if chance.random() < 0.5 else plan.drops)
+
+
+def gives(trace):
+    return trace[-1][2] if trace else None
+
+
+def likeness(one, other, most):
+    """How many pairs of stocks come about, and the least number of deeds that part two plans, None if none do."""
+    first = (Shop(one).stock(), Shop(other).stock())
+    seen = {first: 0}
+    rows = [first]
+    soonest = None
+    while rows and len(seen) <= most:
+        left, right = pair = rows.pop(0)
+        for deed in deeds(one):
+            shops = (Shop(one, left), Shop(other, right))
+            told = [gives(shop.do(deed)) for shop in shops]
+            later = (shops[0].stock(), shops[1].stock())
+            if told[0] != told[1]:
+                soonest = soonest or seen[pair] + 1
+            elif later not in seen:
+                seen[later] = seen[pair] + 1
+                rows.append(later)
+    return len(seen), soonest
+
+
+def any_offers(seed, plan, many):
+    """So many offers for a plan; the same ones for the same seed."""
+    chance = random.Random(f"offers {seed}")
+    rows = []
+    while len(rows) < many:
+        word, place, price = chance.choice(("rule", "mark", "drop")), chance.randrange(len(plan)), chance.randint(1, 4)
+        names = usable(plan, place)
+        if word == "rule":
+            # Of each three rules, about two make the place sound: otherwise hardly any choice is good.
+            rule = chance.choice((None, "reads", "shown", Key(names), Key([n for n in names if chance.random() < 0.6])))
+            rows.append((word, place, rule, price))
+        elif word == "mark":
+            rows.append((word, place, chance.choice(names), price))
+        elif plan.cells:
+            rows.append((word, chance.randrange(plan.cells), place, price))
+    return tuple(rows)
+
+
+def price(offers, choice):
+    return sum(offers[at][3] for at in choice)
+
+
+def choices(offers):
+    """All choices, in order."""
+    return sorted(all_keys(range(len(offers))), key=lambda choice: (price(offers, choice), choice))
+
+
+def plan_after(plan, offers, choice):
+    rules = [rule for recipe, rule in plan.places]
+    drops = [set(row) for row in plan.drops]
+    for word, at, given, due in [offers[at] for at in choice]:
+        if word == "rule":
+            rules[at] = given
+        elif word == "drop":
+            drops[at].add(given)
+    for word, at, given, due in [offers[at] for at in choice]:
+        if word == "mark" and isinstance(rules[at], Key):
+            rules[at] = Key([*rules[at].names, given])
+    places = tuple((recipe, rule) for (recipe, old), rule in zip(plan.places, rules))
+    return Plan(plan.base, plan.fields, plan.cells, places, drops=tuple(tuple(sorted(row)) for row in drops))
+
+
+def text_of_form(form):
+    word, *parts = form
+    if word == "number":
+        return str(parts[0])
+    if word in LETTERS:
+        return LETTERS[word] + str(parts[0])
+    texts = [text_of_form(part) for part in parts]
+    if word == "when":
+        return "({}?{}:{})".format(*texts)
+    return "(" + {"sum": "+", "less": "-", "times": "*", "same": "="}[word].join(texts) + ")"
+
+
+# What may come next in a text of a form, by its character, and what is then still to come.
+NEXT = {
+    "form": {"(": ["form", "join"], "f": ["to 2"], "c": ["to 1"], "p": ["to 1"], "0": [], "1": [], "2": []},
+    "join": {"?": ["form", ":", "form", ")"], "+": ["form", ")"], "-": ["form", ")"], "*": ["form", ")"],
+             "=": ["form", ")"]},
+    "to 2": {"0": [], "1": [], "2": []}, "to 1": {"0": [], "1": []}, ":": {":": []}, ")": {")": []},
+}
+
+
+def form_goes_wrong(text):
+    """The index of the first character with which no text of a form can go on, or where it ends, or None."""
+    ahead = ["form"]
+    for at, sign in enumerate(text):
+        if not ahead or sign not in NEXT[ahead[0]]:
+            return at
+        ahead = NEXT[ahead[0]][sign] + ahead[1:]
+    return len(text) if ahead else None

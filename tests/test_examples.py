@@ -1,6 +1,5 @@
 """The examples of the document, as they stand there."""
 
-import ast
 import doctest
 import pathlib
 import re
@@ -64,12 +63,50 @@ CHEAPEST = """\
 [('f0', 'f1', 'p0'), 8, None, ('f0', 'f1'), None]
 """
 
+MENDING = """\
+>>> from shortkeys.judging import Mixed
+>>> from shortkeys.keys import Key
+>>> from shortkeys.mending import Hopeless, least_cost, mend, plan_after
+>>> from shortkeys.plans import Plan
+>>> from shortkeys.recipes import Recipe
+>>> plan = Plan(2, 1, 1, ((Recipe.field(0) + Recipe.cell(0), Key.of('f0')),))
+>>> offers = (('mark', 0, 'c0', 3), ('drop', 0, 0, 2), ('rule', 0, None, 4), ('rule', 0, 'reads', 2))
+>>> found = mend(plan, offers)
+>>> bad = Mixed([('ask', 0, (1,)), ('set', 0, 1), ('ask', 0, (1,))])
+>>> [found.choice, list(found.against), least_cost(plan, offers[2:]), plan_after(plan, offers, (0, 2))[0][1], plan_after(plan, offers, (0, 1)).drops]
+[(1,), [()], 2, None, ((0,),)]
+>>> [found.shows(plan, offers), Hopeless({(): bad}).shows(plan, (('rule', 0, Key.of('f0'), 1),)), Hopeless({(): bad, (0,): bad}).shows(plan, (('rule', 0, Key.of('f0'), 1),))]
+[True, False, True]
+"""
 
-def is_enough(block):
-    """Tell whether the package has all modules from which an example imports."""
-    rows = [example.source for example in doctest.DocTestParser().get_examples(block)]
-    names = [node.module for node in ast.walk(ast.parse("".join(rows))) if isinstance(node, ast.ImportFrom)]
-    return all((ROOT / (name.replace(".", "/") + ".py")).exists() for name in names)
+HOUSES = """\
+>>> from shortkeys.alike import Parted, are_alike, parting_length
+>>> from shortkeys.houses import House
+>>> from shortkeys.keys import Key
+>>> from shortkeys.plans import Plan
+>>> from shortkeys.recipes import Recipe
+>>> short = Plan(2, 1, 1, ((Recipe.field(0) + Recipe.cell(0), Key.of('f0')),))
+>>> full, bare = short.ruled(0, 'reads'), short.ruled(0, None)
+>>> house = House(short)
+>>> first = [house(0, (1,)), house.do(('set', 0, 1), ('ask', 0, (1,)), ('ask', 0, (0,))), house.bill(), house[0], house.stock()]
+>>> second = [house.undo(), house.attempt(House.stock) == house.stock(), len(house), house.branch().journal() == house.journal()]
+>>> history = [('ask', 0, (1,)), ('set', 0, 1), ('ask', 0, (1,))]
+>>> [first, second, are_alike(full, bare), parting_length(short, full), Parted(history).shows(short, full), Parted(history[:1]).shows(short, full)]
+[[1, [None, 1, 1], {0: (2, 1)}, 1, ((1,), ((((('f0', 1),), 1), ((('f0', 0),), 1)),))], [(('ask', 0, (0,)), 1), True, 3, True], True, 3, True, False]
+"""
+
+TEXTS = """\
+>>> from shortkeys.keys import Key
+>>> from shortkeys.plans import Plan
+>>> from shortkeys.recipes import Recipe
+>>> from shortkeys.texts import history_text, plan_text, read_history, read_plan, read_recipe, recipe_text
+>>> who, day = Recipe.field(0), Recipe.cell(0)
+>>> plan = Plan(3, 1, 1, ((2 * day, None), (who.same(1).then(Recipe.place(0), who - day), Key.of('c0', 'f0'))), drops=((0, 1),))
+>>> [recipe_text(plan[1][0]), plan_text(plan), read_plan(plan_text(plan)) == plan, read_recipe('(f0?(1+c0):2)').form]
+['((f0=1)?p0:(f0-c0))', 'base 3\\nfields 1\\ncells 1\\nplace none (2*c0)\\nplace key,f0,c0 ((f0=1)?p0:(f0-c0))\\ndrops 0 1\\n', True, ('when', ('field', 0), ('sum', ('number', 1), ('cell', 0)), ('number', 2))]
+>>> [history_text(plan, [('set', 0, 2), ('ask', 1, (1,))]), read_history(plan, 'ask 0 2\\nset 0 1\\n')]
+['set 0 2\\nask 1 1\\n', [('ask', 0, (2,)), ('set', 0, 1)]]
+"""
 
 
 def failures(block):
@@ -94,18 +131,23 @@ class ExamplesTest(unittest.TestCase):
     def test_cheapest(self):
         self.assertEqual(tuple(failures(CHEAPEST)), (0, 9))
 
+    def test_mending(self):
+        self.assertEqual(tuple(failures(MENDING)), (0, 11))
+
+    def test_houses(self):
+        self.assertEqual(tuple(failures(HOUSES)), (0, 12))
+
+    def test_texts(self):
+        self.assertEqual(tuple(failures(TEXTS)), (0, 8))
+
     def test_readme(self):
         blocks = re.findall(r"```\n(>>>.*?)```", (ROOT / "README.md").read_text(encoding="utf-8"), re.DOTALL)
-        self.assertEqual([tuple(failures(block)) for block in blocks], [(0, 13)])
+        self.assertEqual([tuple(failures(block)) for block in blocks], [(0, 23)])
 
     @unittest.skipUnless(DOCUMENT.exists(), "the document is not beside the project")
-    def test_all_for_which_there_are_modules(self):
+    def test_they_are_those_of_the_document(self):
         blocks = re.findall(r"```\n(.*?)```", DOCUMENT.read_text(encoding="utf-8"), re.DOTALL)
-        self.assertEqual(blocks[:5], [RECIPES, KEYS, VALUES, JUDGING, CHEAPEST])
-        for block in blocks:
-            if is_enough(block):
-                with self.subTest(block=block):
-                    self.assertEqual(failures(block).failed, 0)
+        self.assertEqual(blocks, [RECIPES, KEYS, VALUES, JUDGING, CHEAPEST, MENDING, HOUSES, TEXTS])
 
 
 if __name__ == "__main__":
